@@ -3,23 +3,14 @@ package grant_test
 import (
 	"fmt"
 	"slices"
-	"strings"
 	"testing"
 
 	"tetherpost/api"
+	"tetherpost/brief"
 	"tetherpost/grant"
 )
 
-// of some grants, with blanks between them: "f:a3" is right 3 of a in f.
-func of(s string) []api.Grant {
-	var out []api.Grant
-	for _, x := range strings.Fields(s) {
-		folder, who, _ := strings.Cut(x, ":")
-		i := len(who) - 1
-		out = append(out, api.Grant{Folder: folder, Who: who[:i], Right: int(who[i] - '0')})
-	}
-	return out
-}
+var of = brief.Grants
 
 // owners of one folder.
 func owners(n int) []api.Grant {
@@ -30,10 +21,9 @@ func owners(n int) []api.Grant {
 	return out
 }
 
-var long = strings.Repeat("n", 20)
+const long = brief.Long
 
-// noNames: what is no name of somebody, nor of a folder.
-var noNames = []string{"", ".", "..", " a", "a ", "/", "a/b", "a:b", "\x00", "\xe4", long + "n"}
+var noNames = brief.NoNames()
 
 type fault struct {
 	name string

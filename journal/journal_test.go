@@ -7,60 +7,12 @@ import (
 	"testing"
 
 	"tetherpost/api"
+	"tetherpost/brief"
 	"tetherpost/journal"
 	"tetherpost/tree"
 )
 
-// of some entries: "a" is a folder, "a=x" a file with the text x, each at this version.
-func of(version int, l ...string) []api.Entry {
-	var t []api.Entry
-	for _, s := range l {
-		p, text, file := strings.Cut(s, "=")
-		t = append(t, api.Entry{Path: p, Folder: !file, Text: text, Version: version})
-	}
-	return t
-}
-
-// changes, with blanks between them: "+a" is a folder that is made, "a=x" a file that is written, "a>b" a move, "-a" a delete.
-func changes(s string) []api.Change {
-	var out []api.Change
-	for _, f := range strings.Fields(s) {
-		c := api.Change{Kind: api.ChangeWrite, Base: api.Any}
-		c.Path, c.Text, _ = strings.Cut(f, "=")
-		if from, to, is := strings.Cut(f, ">"); is {
-			c.Kind, c.Path, c.To = api.ChangeMove, from, to
-		}
-		switch f[0] {
-		case '+':
-			c.Kind, c.Path = api.ChangeFolder, f[1:]
-		case '-':
-			c.Kind, c.Path = api.ChangeDelete, f[1:]
-		}
-		out = append(out, c)
-	}
-	return out
-}
-
-func based(l []api.Change, base int) []api.Change {
-	for i := range l {
-		l[i].Base = base
-	}
-	return l
-}
-
-// commits from a number on: each is a key, a blank, and its changes.
-func commits(first int, l ...string) []api.Commit {
-	var out []api.Commit
-	for i, s := range l {
-		key, rest, _ := strings.Cut(s, " ")
-		out = append(out, api.Commit{Number: first + i, Key: key, Changes: changes(rest)})
-	}
-	return out
-}
-
-func kept(first int, base []api.Entry, l ...string) api.Journal {
-	return api.Journal{Base: base, First: first, Commits: commits(first, l...)}
-}
+var of, changes, based, commits, kept = brief.Entries, brief.Changes, brief.Based, brief.Commits, brief.Journal
 
 // sample has a tree ahead of its first commit, and commits from 5 to 8.
 func sample() api.Journal {

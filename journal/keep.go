@@ -4,6 +4,7 @@ import (
 	"slices"
 
 	"tetherpost/api"
+	"tetherpost/own"
 	"tetherpost/tree"
 	"tetherpost/word"
 )
@@ -99,15 +100,4 @@ func (k *keeper) forget() {
 }
 
 // journal that is kept, in memory of its own.
-func (k *keeper) journal() api.Journal {
-	return api.Journal{Base: slices.Clone(k.Base), First: k.First, Commits: copied(k.Commits)}
-}
-
-// copied commits, with their changes.
-func copied(l []api.Commit) []api.Commit {
-	out := slices.Clone(l)
-	for i := range out {
-		out[i].Changes = slices.Clone(out[i].Changes)
-	}
-	return out
-}
+func (k *keeper) journal() api.Journal { return own.Journal(k.Journal) }

@@ -3,36 +3,21 @@ package upload_test
 import (
 	"fmt"
 	"slices"
-	"strconv"
 	"strings"
 	"testing"
 
 	"tetherpost/api"
+	"tetherpost/brief"
 	"tetherpost/upload"
 )
 
 const far = api.MaxTime
 
-// session: its number, whose it is, what came, its size, and till when it lasts, with one blank between them: "1 a  5 10" is one of which nothing came.
-func session(s string) api.Session {
-	f := strings.Split(s, " ")
-	number := func(i int) int {
-		n, err := strconv.Atoi(f[i])
-		if err != nil || len(f) != 5 {
-			panic(s)
-		}
-		return n
-	}
-	return api.Session{Number: number(0), Who: f[1], Text: f[2], Size: number(3), Till: number(4)}
-}
+func session(s string) api.Session { return brief.Sessions(s)[0] }
 
 // of some sessions, with Next, and a room of 20 for each.
 func of(next int, l ...string) api.Uploads {
-	u := api.Uploads{Next: next, Lasts: 10, Room: 20}
-	for _, s := range l {
-		u.Sessions = append(u.Sessions, session(s))
-	}
-	return u
+	return api.Uploads{Sessions: brief.Sessions(l...), Next: next, Lasts: 10, Room: 20}
 }
 
 // sample: a has no room left, b has all of its room, c has none of it; d could finish.
@@ -65,9 +50,9 @@ func want(t *testing.T, name string, got, want string) {
 	}
 }
 
-var long = strings.Repeat("n", 20)
+const long = brief.Long
 
-var noNames = []string{"", ".", "..", " a", "a ", "/", "a/b", "a:b", "\x00", "\xe4", long + "n"}
+var noNames = brief.NoNames()
 
 type fault struct {
 	name string
