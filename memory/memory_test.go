@@ -10,6 +10,8 @@ import (
 	"tetherpost/brief"
 	"tetherpost/client"
 	"tetherpost/hub"
+	"tetherpost/wire"
+	"tetherpost/world"
 )
 
 // lists in a value, and in one another, each with the spare room behind it.
@@ -172,4 +174,51 @@ func TestP2P3Client(t *testing.T) {
 			}
 		}
 	}
+}
+
+// worldly: the clients, each of another name, with letters of each on their way.
+func worldly() api.World {
+	w := api.World{Hub: shared(), Clients: clients()}
+	for i, who := range []string{"a", "b", "c", "d"} {
+		w.Clients[i].Who = who
+		ask, _ := wire.Ask(api.Request{Kind: api.AskCommit, Who: who, Folder: "f", Key: "k3", Changes: brief.Changes("n=9")})
+		w.Letters = append(w.Letters, api.Letter{From: i, Kind: api.AskCommit, Text: ask})
+		for _, a := range answers() {
+			tell, _ := wire.Tell(a)
+			w.Letters = append(w.Letters, api.Letter{From: i, Kind: api.AskPage, Answer: true, Text: tell})
+		}
+	}
+	return wide(w)
+}
+
+func events(w api.World) []api.Event {
+	out := []api.Event{{}, {Kind: api.EventTick, Which: 1}, {Kind: api.EventTick, Which: -1}}
+	for i := range w.Clients {
+		for _, x := range brief.Changes("x=9 -d d>e -q") {
+			out = append(out, api.Event{Kind: api.EventEdit, Which: i, Change: x})
+		}
+		out = append(out, api.Event{Kind: api.EventFetch, Which: i}, api.Event{Kind: api.EventSend, Which: i})
+	}
+	for i := range w.Letters {
+		for kind := api.EventServe; kind <= api.EventTwice; kind++ {
+			out = append(out, api.Event{Kind: kind, Which: i})
+		}
+	}
+	for _, r := range requests() {
+		out = append(out, api.Event{Kind: api.EventOther, Request: r})
+	}
+	return wide(out)
+}
+
+func TestP2P3World(t *testing.T) {
+	w := worldly()
+	if world.Check(w) != api.OK {
+		t.Fatalf("no world: %d", world.Check(w))
+	}
+	for _, e := range events(w) {
+		wantOwn(t, fmt.Sprintf("%+v", e), []any{w, e}, func() []any { w, err := world.Step(w, e); return []any{w, err} })
+	}
+	wantOwn(t, "New", []any{w}, func() []any { w, err := world.New(w.Hub, w.Clients); return []any{w, err} })
+	wantOwn(t, "Check", []any{w}, func() []any { return []any{world.Check(w)} })
+	wantOwn(t, "Settled", []any{w}, func() []any { ok, err := world.Settled(w); return []any{ok, err} })
 }

@@ -41,3 +41,14 @@ func Client(c api.Client) api.Client {
 	c.Asked = slices.Clone(c.Asked)
 	return c
 }
+
+// World with all in it.
+func World(w api.World) api.World {
+	w.Hub = Hub(w.Hub)
+	w.Clients = slices.Clone(w.Clients)
+	for i := range w.Clients {
+		w.Clients[i] = Client(w.Clients[i])
+	}
+	w.Letters = slices.Clone(w.Letters)
+	return w
+}

@@ -48,3 +48,21 @@ func TestP2Client(t *testing.T) {
 		t.Errorf("%+v, must be %+v", got, sampleClient())
 	}
 }
+
+func TestP2World(t *testing.T) {
+	sample := func() api.World {
+		return api.World{Hub: sampleHub(), Clients: []api.Client{sampleClient()}, Letters: []api.Letter{{Kind: api.AskPage, Text: "x"}}}
+	}
+	w := sample()
+	got := own.World(w)
+	clear(w.Hub.Folders[0].Journal.Commits[0].Changes)
+	clear(w.Hub.Grants)
+	clear(w.Clients[0].Base)
+	clear(w.Clients[0].Mine)
+	clear(w.Clients[0].Asked)
+	clear(w.Clients)
+	clear(w.Letters)
+	if !reflect.DeepEqual(got, sample()) {
+		t.Errorf("%+v, must be %+v", got, sample())
+	}
+}
